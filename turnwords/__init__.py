@@ -1,0 +1,1 @@
+"""Wordmachines: finite machines that turn words into words."""
