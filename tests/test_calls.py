@@ -2,8 +2,13 @@
 
 import unittest
 
-from asking import AGAIN, ARC, FINAL, FOLLOW, JOIN, NEW, STATE, TURN, apart, flat, last_of, net, numbers_of
+from asking import AGAIN, ARC, BEHIND, ENDLESS, FINAL, FOLLOW, HOLDS, JOIN, KEEP, LATER, NEW, NEXT, SIZE, STATE, TURN
+from asking import apart, built, flat, last_of, net, numbers_of, size_of, told_of, word_of
 from turnwords.nets import answers
+
+MADE = ((JOIN, 1, 0, 0), (FOLLOW, 1, 0, 0), (AGAIN, 1, 0), (BEHIND, 1, 0, 0), (KEEP, 1, 0))
+# Turns a into b, aa into bb, and so on, and at the end writes one c or more: endlessly many words each time.
+LONG = built(0, 3, [2], [(0, "a", "b", 0), (0, "", "c", 2), (2, "", "c", 2)])
 
 
 class FormTest(unittest.TestCase):
@@ -14,15 +19,56 @@ class FormTest(unittest.TestCase):
         calls = [1, 0, 2, 0, 3, 0, 1, 1, 4, 0, 0, 97, -1, 1, 5, 0, 6, 1, 0, 0, 7, 2, 1, 0, 8, 3, 2]
         self.assertEqual(answers(calls), [1, 0, 1, 1, 1, 0, 1, 0, 1, 0, 1, 0, 1, 0, 1, 0])
 
+    def test_form_of_behind_and_keep(self):
+        self.assertEqual(answers([1, 0, 9, 1, 0, 0, 10, 2, 1]), [1, 0, 1, 0, 1, 0])
+
+    def test_form_of_size(self):
+        self.assertEqual(answers([1, 0, 11, 0]), [1, 0, 5, 0, 2, 1, 0, 0])
+        self.assertEqual(answers([1, 0, 2, 0, 4, 0, 0, 1, 2, 0, 11, 0])[-6:], [5, 0, 2, 2, 1, 0])
+
+    def test_form_of_next(self):
+        self.assertEqual(told_of(LONG + [(NEXT, 0, b"")])[-1], [1, 0, 1, 99])
+        self.assertEqual(answers(flat(LONG) + [12, 0, 2, 97, 97])[-7:], [6, 3, 0, 3, 98, 98, 99])
+        self.assertEqual(answers(flat(LONG) + [12, 0, 1, 98])[-3:], [0, 1, -4])
+
+    def test_form_of_later(self):
+        self.assertEqual(answers(flat(LONG) + [13, 0, 2, 97, 97, 3, 98, 98, 99])[-8:], [7, 4, 0, 4, 98, 98, 99, 99])
+        self.assertEqual(answers(flat(LONG) + [13, 0, 2, 97, 97, 0])[-7:], [6, 3, 0, 3, 98, 98, 99])
+        self.assertEqual(answers(flat(LONG) + [13, 0, 1, 98, 0])[-3:], [0, 1, -4])
+
+    def test_form_of_the_empty_word(self):
+        self.assertEqual(answers([1, 0, 3, 0, 0, 1, 12, 0, 0]), [1, 0, 1, 0, 1, 0])
+        self.assertEqual(answers([1, 0, 3, 0, 0, 1, 12, 0, 0, 13, 0, 0, 0]), [1, 0, 1, 0, 1, 0, 1, -4])
+
+    def test_form_of_holds(self):
+        self.assertEqual(answers(flat(LONG) + [14, 0, 1, 97, 2, 98, 99])[-2:], [1, 1])
+        self.assertEqual(answers(flat(LONG) + [14, 0, 1, 97, 2, 98, 98])[-2:], [1, 0])
+        self.assertEqual(answers(flat(LONG) + [14, 0, 0, 0])[-2:], [1, 0])
+
+    def test_form_of_endless(self):
+        self.assertEqual(answers(flat(LONG) + [15, 0, 1, 97])[-2:], [1, 1])
+        self.assertEqual(answers(flat(LONG) + [15, 0, 1, 98])[-2:], [1, 0])
+
+    def test_calls_behind_calls_with_rows(self):
+        calls = LONG + [(NEXT, 0, b"a"), (STATE, 0), (LATER, 0, b"", b""), (HOLDS, 0, b"", b"c"), (SIZE, 0),
+                        (ENDLESS, 0, b"aa"), (STATE, 0), (NEXT, 0, b"x"), (LATER, 0, b"", b"x"), (STATE, 0)]
+        self.assertEqual(told_of(calls)[len(LONG):], [[2, 0, 2, 98, 99], [3], [1, 0, 1, 99], [1], [0, 2, 4, 3, 0],
+                                                      [1], [4], [-4], [2, 0, 2, 99, 99], [5]])
+
     def test_form_of_a_refusal(self):
         self.assertEqual(answers([2, 0]), [1, -8])
         self.assertEqual(answers([1, 6]), [1, -1])
+        self.assertEqual(answers([12, 0, 0, 13, 0, 0, 0, 11, 0, 14, 6, 1, 7, 0]), [1, -8, 1, -8, 1, -8, 1, -1])
+        self.assertEqual(answers([1, 0, 12, 0, 17] + [97] * 17), [1, 0, 1, -2])
 
     def test_whole_numbers_alone_are_answered(self):
         calls = flat([(NEW, 0), (STATE, 0), (FINAL, 0, 1, 7), (FINAL, 0, 1, 0), (STATE, 1), (JOIN, 1, 0, 0)])
         answered = answers(calls)
         self.assertIs(type(answered), list)
         self.assertEqual({type(number) for number in answered}, {int})
+        asked = [(NEXT, 0, b"a"), (LATER, 0, b"a", b"b"), (HOLDS, 0, b"a", b"bc"), (HOLDS, 0, b"", b""),
+                 (ENDLESS, 0, b"a"), (ENDLESS, 0, b"b"), (SIZE, 0), (NEXT, 0, b"b"), (BEHIND, 0, 0, 0), (KEEP, 0, 0)]
+        self.assertEqual({type(number) for number in answers(flat(LONG + asked))}, {int})
 
     def test_one_call_and_400_calls(self):
         self.assertEqual(answers([1, 5]), [1, 0])
@@ -31,9 +77,22 @@ class FormTest(unittest.TestCase):
         self.assertEqual(len(many), 400)
         self.assertEqual(numbers_of(many), [0] + list(range(1, 24)) + [0] * 300 + [-2] * 76)
 
+    def test_400_calls_with_words(self):
+        asked = [(LATER, 0, b"a" * 12, b"b" * 12 + b"c" * count) for count in range(5)] * 78 + [(ENDLESS, 0, b"a")]
+        calls = LONG + asked
+        calls += [(SIZE, 0)] * (400 - len(calls))
+        told = told_of(calls)
+        self.assertEqual(len(told), 400)
+        five = [b"b" * 12 + b"c" * count for count in (1, 2, 3, 4)] + [None]
+        self.assertEqual([word_of(answer) for answer in told[len(LONG):len(LONG) + 390]], five * 78)
+        self.assertEqual(told[-1], [0, 2, 3, 3, 0])
+
 
 class NothingKeptTest(unittest.TestCase):
-    CALLS = flat(net(0, 3, 4) + [(TURN, 0), (JOIN, 1, 0, 0), (FOLLOW, 0, 1, 0), (AGAIN, 9, 0), (STATE, 0)])
+    CALLS = flat(net(0, 3, 4) + [(TURN, 0), (JOIN, 1, 0, 0), (FOLLOW, 0, 1, 0), (AGAIN, 9, 0), (STATE, 0)]
+                 + LONG + [(NEXT, 0, b"aa"), (LATER, 0, b"aa", b"bbc"), (HOLDS, 0, b"a", b"bc"), (ENDLESS, 0, b"a")]
+                 + [(KEEP, 2, 0), (BEHIND, 3, 2, 0), (SIZE, 3), (NEXT, 3, b"a"), (TURN, 3), (ENDLESS, 3, b"bc")]
+                 + [(LATER, 3, b"bc", b""), (NEXT, 3, b"a" * 17), (HOLDS, 3, b"", b"a" * 17), (SIZE, 4)])
 
     def test_the_same_list_twice(self):
         first = answers(self.CALLS)
@@ -87,7 +146,7 @@ class NewTest(unittest.TestCase):
         self.assertEqual(numbers_of(calls)[-3:], [0, 0, 0])
 
     def test_new_where_a_made_machine_stands(self):
-        for made in ((JOIN, 1, 0, 0), (FOLLOW, 1, 0, 0), (AGAIN, 1, 0)):
+        for made in MADE:
             calls = net(0, 2, 1) + [made, (STATE, 1), (NEW, 1), (STATE, 1), (FINAL, 1, 1, 1), (ARC, 1, 0, 0, 0, 1)]
             self.assertEqual(numbers_of(calls)[-5:], [-3, 0, 1, 0, 0])
 
@@ -126,7 +185,7 @@ class TurnTest(unittest.TestCase):
         self.assertEqual(numbers_of(calls)[-6:], [0, 3, 0, 0, 0, 4])
 
     def test_a_made_machine_stays_one_that_is_not(self):
-        for made in ((JOIN, 1, 0, 0), (FOLLOW, 1, 0, 0), (AGAIN, 1, 0)):
+        for made in MADE:
             calls = net(0, 2, 1) + [made, (TURN, 1), (STATE, 1), (FINAL, 1, 0, 1), (ARC, 1, 0, 1, 1, 0)]
             self.assertEqual(numbers_of(calls)[-4:], [0, -3, -3, -3])
 
@@ -146,14 +205,16 @@ class TurnTest(unittest.TestCase):
 
 
 class MakingTest(unittest.TestCase):
+    MADE_AT_5 = ((JOIN, 5, 0, 1), (FOLLOW, 5, 0, 1), (AGAIN, 5, 0), (BEHIND, 5, 0, 1), (KEEP, 5, 0))
+
     def test_what_is_made_is_not_built_any_more(self):
-        for made in ((JOIN, 5, 0, 1), (FOLLOW, 5, 0, 1), (AGAIN, 5, 0)):
+        for made in self.MADE_AT_5:
             calls = net(0, 2, 1) + net(1, 1, 1) + [made]
             for more in ((STATE, 5), (FINAL, 5, 0, 1), (ARC, 5, 0, 97, 97, 0)):
                 self.assertEqual(numbers_of(calls + [more])[-2:], [0, -3])
 
     def test_the_parts_stay_as_they_are(self):
-        for made in ((JOIN, 5, 0, 1), (FOLLOW, 5, 0, 1), (AGAIN, 5, 0)):
+        for made in self.MADE_AT_5:
             calls = net(0, 2, 1) + net(1, 4, 1) + [made, (STATE, 0), (STATE, 1), (ARC, 0, 2, 1, 1, 1)]
             self.assertEqual(numbers_of(calls)[-3:], [2, 4, 0])
 
@@ -167,14 +228,17 @@ class MakingTest(unittest.TestCase):
             self.assertEqual((before, behind), (24 - just, 24 - just))
 
     def test_the_place_may_be_that_of_a_part(self):
-        for made in ((JOIN, 0, 0, 1), (FOLLOW, 0, 0, 1), (JOIN, 0, 1, 0), (FOLLOW, 0, 1, 0), (AGAIN, 0, 0)):
+        for made in ((JOIN, 0, 0, 1), (FOLLOW, 0, 0, 1), (JOIN, 0, 1, 0), (FOLLOW, 0, 1, 0), (AGAIN, 0, 0),
+                     (BEHIND, 0, 0, 1), (BEHIND, 0, 1, 0), (KEEP, 0, 0)):
             calls = net(0, 3, 1) + net(1, 2, 1) + [made, (STATE, 0), (STATE, 1)]
             self.assertEqual(numbers_of(calls)[-3:], [0, -3, 2])
 
     def test_with_a_part_the_place_counts_by_what_was_made(self):
-        for made, states in (((JOIN, 0, 0, 1), 6), ((FOLLOW, 0, 1, 0), 5), ((AGAIN, 0, 0), 4), ((JOIN, 0, 0, 0), 7)):
-            calls = net(0, 3, 1) + net(1, 2, 1) + [made] + [(AGAIN, 0, 0)] * 24
-            self.assertEqual(numbers_of(calls).count(-2), 24 - (24 - states))
+        for made, states in (((JOIN, 0, 0, 1), 6), ((FOLLOW, 0, 1, 0), 5), ((AGAIN, 0, 0), 4), ((JOIN, 0, 0, 0), 7),
+                             ((BEHIND, 0, 0, 1), 6), ((BEHIND, 0, 0, 0), 9), ((KEEP, 0, 0), 3)):
+            calls = net(0, 3, 1) + net(1, 2, 1) + [made]
+            self.assertEqual(size_of(calls, 0)[0], states)
+            self.assertEqual(numbers_of(calls + [(AGAIN, 0, 0)] * 24).count(-2), 24 - (24 - states))
 
     def test_the_parts_may_be_the_same(self):
         for made in ((JOIN, 1, 0, 0), (FOLLOW, 1, 0, 0), (JOIN, 0, 0, 0), (FOLLOW, 0, 0, 0)):

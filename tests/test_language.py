@@ -50,14 +50,19 @@ def faults_of_signs(text):
     return faults + [f"L17 the word {found.group()}" for found in WORDS.finditer(text)]
 
 
-def faults_of_names(tree):
+def own_methods(trees):
+    return {part.name for tree in trees for node in ast.walk(tree) if isinstance(node, ast.ClassDef)
+            for part in node.body if isinstance(part, ast.FunctionDef)}
+
+
+def faults_of_names(tree, methods):
     bound = bound_names(tree)
     faults = [f"L8, L15 the name {name}" for name in bound
               if name in PYTHONS_OWN and name not in METHODS_WITH_UNDERSCORES]
     faults += [f"L12 the name {name}" for name in bound if name not in METHODS_WITH_UNDERSCORES
                and not re.fullmatch("[A-Za-z][A-Za-z0-9_]*", name)]
     classes = {node.name for node in tree.body if isinstance(node, ast.ClassDef)}
-    own = {node.name for node in ast.walk(tree) if isinstance(node, ast.FunctionDef)}
+    own = methods | own_methods([tree])
     for node in ast.walk(tree):
         if isinstance(node, ast.Name) and node.id not in NAMES | set(bound):
             faults.append(f"L8 the name {node.id}")
@@ -124,9 +129,30 @@ def faults_of_forms(tree):
     return faults
 
 
-def faults_of(text):
+def faults_of_locals(tree):
+    """L15: no parameter and no local is called like a class or an import of its file."""
+    imported = {name.name for node in tree.body if isinstance(node, ast.ImportFrom) for name in node.names}
+    tops = imported | {node.name for node in tree.body if isinstance(node, ast.ClassDef)}
+    within = [node for top in tree.body for node in ast.walk(top) if not isinstance(top, ast.ImportFrom)]
+    named = [node.arg for node in within if isinstance(node, ast.arg)]
+    named += [node.id for node in within if isinstance(node, ast.Name) and isinstance(node.ctx, ast.Store)]
+    return [f"L15 the local {name}" for name in named if name in tops]
+
+
+def faults_of_kinds(trees):
+    """L26: no method is called like one of Python's own; L18: no name is a method here and a value there."""
+    methods = own_methods(trees)
+    values = {node.attr for tree in trees for node in ast.walk(tree)
+              if isinstance(node, ast.Attribute) and isinstance(node.ctx, ast.Store)}
+    pythons = {name for kind in (str, int, list, dict, set, bytes) for name in dir(kind)}
+    faults = [f"L26 {name}" for name in sorted((methods | values) & pythons - METHODS_WITH_UNDERSCORES)]
+    return faults + [f"L18 {name}" for name in sorted(methods & values)]
+
+
+def faults_of(text, methods=frozenset()):
     tree = ast.parse(text)
-    return faults_of_signs(text) + faults_of_names(tree) + faults_of_top(tree) + faults_of_forms(tree)
+    return (faults_of_signs(text) + faults_of_names(tree, methods) + faults_of_locals(tree) + faults_of_top(tree)
+            + faults_of_forms(tree))
 
 
 class PackageTest(unittest.TestCase):
@@ -139,8 +165,11 @@ class PackageTest(unittest.TestCase):
         self.assertIn(PACKAGE / "__init__.py", self.files())
 
     def test_each_file_keeps_to_the_rules(self):
-        for path in self.files():
-            self.assertEqual(faults_of(path.read_text(encoding="utf-8")), [], path.name)
+        texts = {path.name: path.read_text(encoding="utf-8") for path in self.files()}
+        trees = [ast.parse(text) for text in texts.values()]
+        for name, text in texts.items():
+            self.assertEqual(faults_of(text, own_methods(trees)), [], name)
+        self.assertEqual(faults_of_kinds(trees), [])
 
     def test_what_is_imported_is_defined_there(self):
         drawn = {}
@@ -170,10 +199,21 @@ class FaultsTest(unittest.TestCase):
         for text in ("import os", "from os import path", "x = f(1)", "print(1)", "def f():\n    return eval('1')",
                      "def f(a, *b):\n    pass", "def f():\n    return {1, 2}", "def f(a):\n    return a / 2",
                      "def f(a):\n    a.sort()", "def f(a):\n    assert a", "def next(a):\n    pass", "x = 1\nx = 2",
-                     "def f(min):\n    pass", "def _f():\n    pass", "x = [[1]]", "# the type", "x = 1.5", "x = '\u00e9'",
+                     "def f(min):\n    pass", "def _f():\n    pass", "x = [[1]]", "# the type", "x = 1.5",
+                     "x = '\u00e9'",
                      "def f():\n" + "    pass\n" * 40, "x = 1  #" + "-" * 120, "def f(a):\n    with a:\n        pass",
-                     "class A(B, C):\n    pass", "def f():\n    class A:\n        pass", "x = y = 1"):
+                     "class A(B, C):\n    pass", "def f():\n    class A:\n        pass", "x = y = 1",
+                     "from turnwords.nets import a\n\n\ndef f():\n    a = 1", "def f(a):\n    a.far()",
+                     "class A:\n    pass\n\n\ndef f(A):\n    pass"):
             self.assertNotEqual(faults_of(text), [], text)
+
+    def test_methods_of_other_files_are_known(self):
+        self.assertEqual(faults_of("def f(a):\n    a.far()", {"far"}), [])
+
+    def test_kinds_of_names(self):
+        for text in ("class A:\n    def keys(self):\n        pass", "def f(a):\n    a.items = 1",
+                     "class A:\n    def far(self):\n        self.far = 1"):
+            self.assertNotEqual(faults_of_kinds([ast.parse(text)]), [], text)
 
     def test_plain_code_has_none(self):
         self.assertEqual(faults_of("x = (1, -2)\n\n\ndef f(a, b=1):\n    return [c + b for c in a if c > 0]\n"), [])

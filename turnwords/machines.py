@@ -1,7 +1,7 @@
 """Machines: nets that are being built, and machines made of others, which are kept as nets too.
 
 A net has a list of its states, True for each final one, and a list of its arcs, each a tuple
-(start, reads, writes, to), where -1 stands for nothing read or written. State 0 is the first.
+(start, reads, writes, to), where NOTHING stands for nothing read or written. State 0 is the first.
 """
 
 from turnwords.refusals import NoRoom, NoSuchPart, NotBuilding
@@ -9,6 +9,7 @@ from turnwords.refusals import NoRoom, NoSuchPart, NotBuilding
 MOST_STATES = 24
 MOST_ARCS = 300
 MOST_BYTE = 255
+NOTHING = -1
 
 
 class Machine:
@@ -40,7 +41,7 @@ def need_state(net, state):
 
 
 def need_byte_or_nothing(label):
-    if label < -1 or label > MOST_BYTE:
+    if label < NOTHING or label > MOST_BYTE:
         raise NoSuchPart()
 
 
@@ -80,7 +81,7 @@ def joined(a, b):
     # A first state of its own: an arc that leads back to the first state of a must not reach b.
     b_first = 1 + len(a.finals)
     finals = [False] + a.finals + b.finals
-    arcs = [silent_arc(0, 1), silent_arc(0, b_first)] + moved(a.arcs, 1) + moved(b.arcs, b_first)
+    arcs = [linking_arc(0, 1), linking_arc(0, b_first)] + moved(a.arcs, 1) + moved(b.arcs, b_first)
     return Machine(finals, arcs, told)
 
 
@@ -90,7 +91,7 @@ def followed(a, b):
     told = within_bounds(a_states + b_states, a_arcs + b_arcs + a_states)
     b_first = len(a.finals)
     finals = [False] * b_first + b.finals
-    arcs = a.arcs + moved(b.arcs, b_first) + [silent_arc(end, b_first) for end in ends(a)]
+    arcs = a.arcs + moved(b.arcs, b_first) + [linking_arc(end, b_first) for end in ends(a)]
     return Machine(finals, arcs, told)
 
 
@@ -100,8 +101,45 @@ def repeated(a):
     # A first state of its own, and final: were the first state of a made final instead, a way
     # that comes back to it in the midst of a round could end there.
     finals = [True] + [False] * len(a.finals)
-    arcs = [silent_arc(0, 1)] + moved(a.arcs, 1) + [silent_arc(1 + end, 0) for end in ends(a)]
+    arcs = [linking_arc(0, 1)] + moved(a.arcs, 1) + [linking_arc(1 + end, 0) for end in ends(a)]
     return Machine(finals, arcs, told)
+
+
+def behind_another(a, b):
+    a_states, a_arcs = a.two_numbers()
+    b_states, b_arcs = b.two_numbers()
+    told = within_bounds(a_states * b_states, a_arcs * b_arcs + a_arcs * b_states + a_states * b_arcs)
+    # A state for each pair of states: what lies between them is never written down, so it may have any length.
+    finals = []
+    for final in a.finals:
+        finals.extend([final and other for other in b.finals])
+    return Machine(finals, arcs_of_first(a, b) + arcs_of_second_alone(a, b), told)
+
+
+def arcs_of_first(a, b):
+    width = len(b.finals)
+    arcs = []
+    for start, reads, writes, to in a.arcs:
+        if writes == NOTHING:
+            arcs.extend([(start * width + at, reads, NOTHING, to * width + at) for at in range(width)])
+        else:
+            arcs.extend([(start * width + b_start, reads, b_writes, to * width + b_to)
+                         for b_start, b_reads, b_writes, b_to in b.arcs if b_reads == writes])
+    return arcs
+
+
+def arcs_of_second_alone(a, b):
+    width = len(b.finals)
+    arcs = []
+    for start, reads, writes, to in b.arcs:
+        if reads == NOTHING:
+            arcs.extend([(at * width + start, NOTHING, writes, at * width + to) for at in range(len(a.finals))])
+    return arcs
+
+
+def own_words(a):
+    arcs = [(start, reads, reads, to) for start, reads, writes, to in a.arcs]
+    return Machine(list(a.finals), arcs, a.two_numbers())
 
 
 def within_bounds(states, arcs):
@@ -110,8 +148,8 @@ def within_bounds(states, arcs):
     return states, arcs
 
 
-def silent_arc(start, to):
-    return start, -1, -1, to
+def linking_arc(start, to):
+    return start, NOTHING, NOTHING, to
 
 
 def moved(arcs, by):

@@ -19,3 +19,11 @@ class NoSuchPart(Exception):
 
 class NoRoom(Exception):
     pass
+
+
+class TooLong(Exception):
+    pass
+
+
+class NoWord(Exception):
+    pass
